@@ -1,0 +1,1 @@
+"""A house that settles by its rules."""
