@@ -1,4 +1,4 @@
-"""Reads a house from its text and sets its things by its rules, pass behind pass."""
+"""Reads a house from its text, settles it pass behind pass, and tells which rule decides a thing."""
 
 MOST_BYTES = 1200
 MOST_BYTES_IN_LINE = 100
@@ -16,6 +16,8 @@ LINE_SAYS_NOTHING = -1000
 TOO_MANY_STATES = -28
 NOT_A_STATE = -34
 FOR_EVER = -41
+NO_SUCH_THING = -2
+NO_RULE_DECIDES = -6
 NO_REFUSAL = 0
 
 # Stands where a thing's number, an entry's number or a value would, if there is none.
@@ -77,6 +79,20 @@ def settle(t, state):
     if refusal != NO_REFUSAL:
         return [refusal]
     return settle_house(house, state)
+
+
+def why(i, t, state):
+    """The number, as an entry, of the rule that decides thing i in the state; or a refusal alone."""
+    house = read_house(t)
+    refusal = find_refusal(t, house, state)
+    if refusal != NO_REFUSAL:
+        return [refusal]
+    if i >= len(house.things):
+        return [NO_SUCH_THING]
+    number = find_deciding(house, i, state)
+    if number == NONE:
+        return [NO_RULE_DECIDES]
+    return [number]
 
 
 def find_refusal(t, house, state):

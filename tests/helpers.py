@@ -1,6 +1,6 @@
 """What the tests share: texts as lists of bytes, and houses written line by line."""
 
-from houserulesdesk.passes import settle
+from houserulesdesk.passes import settle, why
 
 
 def bytes_of(text):
@@ -13,3 +13,7 @@ def told(*lines):
 
 def settled(lines, state):
     return settle(told(*lines), state)
+
+
+def decided(i, lines, state):
+    return why(i, told(*lines), state)

@@ -1,4 +1,4 @@
-"""A second way to say what settle answers: by recursion, by regular expressions, by states seen before."""
+"""A second way to say what the calls answer: by recursion, by regular expressions, by states seen before."""
 
 import re
 
@@ -82,20 +82,29 @@ def read(t):
     return things, entries
 
 
-def answer(t, state):
+def refusal(t, state):
+    """What all calls refuse, or None."""
     if len(t) > 1200:
-        return [-22]
+        return -22
     house = read(t)
     if isinstance(house, int):
-        return [-1000 - house]
+        return -1000 - house
     things, entries = house
     states = 1
     for at, top, out in things.values():
         states *= top + 1
     if states > 64:
-        return [-28]
+        return -28
     if len(state) != len(things) or any(value > top for value, (at, top, out) in zip(state, things.values())):
-        return [-34]
+        return -34
+    return None
+
+
+def settle(t, state):
+    refused = refusal(t, state)
+    if refused is not None:
+        return [refused]
+    things, entries = read(t)
     seen = [tuple(state)]
     while True:
         after = step(seen[-1], entries)
@@ -104,3 +113,13 @@ def answer(t, state):
         if after in seen:
             return [-41]
         seen.append(after)
+
+
+def why(i, t, state):
+    refused = refusal(t, state)
+    if refused is not None:
+        return [refused]
+    things, entries = read(t)
+    if i not in [at for at, top, out in things.values()]:
+        return [-2]
+    return [min((number for number, (test, at, value) in enumerate(entries) if at == i and test(state)), default=-6)]

@@ -1,10 +1,10 @@
-"""Many houses, sound and spoilt: settle answers as the model does, and what holds holds."""
+"""Many houses, sound and spoilt: each call answers as the model does, and what holds holds."""
 
 import random
 import unittest
 from collections import Counter
 
-from houserulesdesk.passes import settle
+from houserulesdesk.passes import settle, why
 from tests import model
 
 WORDS = ["in", "out", "rule", "never", "and", "or", "not", "->", "=", "<", ">", "0", "1", "2", "3", "4", "a", "b", "c"]
@@ -57,9 +57,19 @@ class AgainstTheModel(unittest.TestCase):
         kinds = Counter()
         for t, state in self.sound_houses(3000):
             found = settle(t, state)
-            self.assertEqual(found, model.answer(t, state), (bytes(t), state))
+            self.assertEqual(found, model.settle(t, state), (bytes(t), state))
             kinds[found[0]] += 1
         for kind in (-41, -28, 0, 1, 2, 3):
+            self.assertGreater(kinds[kind], 20, kind)
+
+    def test_why_in_sound_houses(self):
+        kinds = Counter()
+        for t, state in self.sound_houses(2000):
+            for i in range(len(state) + 2):
+                found = why(i, t, state)
+                self.assertEqual(found, model.why(i, t, state), (i, bytes(t), state))
+                kinds[found[0]] += 1
+        for kind in (-28, -6, -2, 0, 1, 2, 3, 4, 5, 6, 7):
             self.assertGreater(kinds[kind], 20, kind)
 
     def test_spoilt_houses(self):
@@ -70,7 +80,9 @@ class AgainstTheModel(unittest.TestCase):
             t = list("\n".join(spoil(rng, lines)).encode())
             state = [rng.randint(0, top) for top in tops]
             found = settle(t, state)
-            self.assertEqual(found, model.answer(t, state), (bytes(t), state))
+            self.assertEqual(found, model.settle(t, state), (bytes(t), state))
+            i = rng.randrange(7)
+            self.assertEqual(why(i, t, state), model.why(i, t, state), (i, bytes(t), state))
             refused += found[0] < -1000
         self.assertGreater(refused, 500)
 
@@ -81,7 +93,9 @@ class AgainstTheModel(unittest.TestCase):
             for change in range(rng.randint(0, 2)):
                 t.insert(rng.randint(0, len(t)), rng.randint(0, 255))
             state = [rng.randint(0, 2) for value in range(rng.randint(0, 2))]
-            self.assertEqual(settle(t, state), model.answer(t, state), (bytes(t), state))
+            self.assertEqual(settle(t, state), model.settle(t, state), (bytes(t), state))
+            i = rng.randrange(3)
+            self.assertEqual(why(i, t, state), model.why(i, t, state), (i, bytes(t), state))
 
     def test_what_holds(self):
         for t, state in self.sound_houses(2000):
@@ -100,6 +114,15 @@ class AgainstTheModel(unittest.TestCase):
                     self.assertEqual(after[at], state[at])
                 deciding = [value for test, thing, value in entries if thing == at and test(after)]
                 self.assertIn(after[at], deciding[:1] or [after[at]])
+
+    def test_why_tells_what_a_pass_does(self):
+        for t, state in self.sound_houses(1000):
+            deciding = [why(i, t, state) for i in range(len(state))]
+            if [-28] in deciding:
+                continue
+            things, entries = model.read(t)
+            after = [entries[number][2] if number >= 0 else was for (number,), was in zip(deciding, state)]
+            self.assertEqual(tuple(after), model.step(tuple(state), entries), (bytes(t), state))
 
     def assert_goes_on(self, state, entries):
         for turn in range(200):
