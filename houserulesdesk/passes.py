@@ -1,4 +1,4 @@
-"""Reads a house from its text, settles it pass behind pass, and tells which rule decides a thing."""
+"""Reads a house from its text, settles it, and tells which rule decides a thing and which ban is broken."""
 
 MOST_BYTES = 1200
 MOST_BYTES_IN_LINE = 100
@@ -18,6 +18,7 @@ NOT_A_STATE = -34
 FOR_EVER = -41
 NO_SUCH_THING = -2
 NO_RULE_DECIDES = -6
+NO_BAN_BROKEN = -6
 NO_REFUSAL = 0
 
 # Stands where a thing's number, an entry's number or a value would, if there is none.
@@ -95,6 +96,18 @@ def why(i, t, state):
     return [number]
 
 
+def never(t, state):
+    """The number, as an entry, of the first ban that is broken in the state; or a refusal alone."""
+    house = read_house(t)
+    refusal = find_refusal(t, house, state)
+    if refusal != NO_REFUSAL:
+        return [refusal]
+    number = find_broken(house, state)
+    if number == NONE:
+        return [NO_BAN_BROKEN]
+    return [number]
+
+
 def find_refusal(t, house, state):
     """The first refusal that is due, in the order in which the document tells them."""
     if len(t) > MOST_BYTES:
@@ -151,6 +164,12 @@ def find_deciding(house, thing, state):
         if entry.thing == thing and holds(entry.condition, state):
             return number
     return NONE
+
+
+def find_broken(house, state):
+    """The number of the first entry that is a ban and is broken in the state, or NONE."""
+    # What sets no thing is a ban, so bans are found as the rules of a thing are.
+    return find_deciding(house, NONE, state)
 
 
 def holds(condition, state):

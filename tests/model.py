@@ -123,3 +123,11 @@ def why(i, t, state):
     if i not in [at for at, top, out in things.values()]:
         return [-2]
     return [min((number for number, (test, at, value) in enumerate(entries) if at == i and test(state)), default=-6)]
+
+
+def never(t, state):
+    refused = refusal(t, state)
+    if refused is not None:
+        return [refused]
+    things, entries = read(t)
+    return [min((number for number, (test, at, value) in enumerate(entries) if at is None and test(state)), default=-6)]

@@ -9,25 +9,27 @@ import sys
 import unittest
 
 from houserulesdesk import passes
-from houserulesdesk.passes import settle, why
+from houserulesdesk.passes import never, settle, why
 from tests.helpers import told
 
 HOUSE = ["in a 1", "out b 3", "out c 1", "rule a = 1 -> b = 3", "never b = 2", "rule b > 2 -> c = 1"]
 FOR_EVER = ["out a 1", "rule a = 0 -> a = 1", "rule a = 1 -> a = 0"]
 INPUTS = (
-    (told(*HOUSE), [1, 0, 0]), (told(*HOUSE), [0, 1, 1]), (told(*HOUSE), [4, 0, 0]), (told(*HOUSE), []),
+    (told(*HOUSE), [1, 0, 0]), (told(*HOUSE), [0, 2, 1]), (told(*HOUSE), [4, 0, 0]), (told(*HOUSE), []),
     (told(*FOR_EVER), [0]), (told(*HOUSE, "no"), [0, 0, 0]), ([10] * 2000, []), ([], []),
     (told("in a 3", "in b 3", "in c 3", "in d 3"), [0] * 4),
 )
-SETTLED = ([2, 1, 3, 1], [0, 0, 1, 1], [-34], [-34], [-41], [-1007], [-22], [0], [-28])
+SETTLED = ([2, 1, 3, 1], [0, 0, 2, 1], [-34], [-34], [-41], [-1007], [-22], [0], [-28])
 DECIDED = {
     0: ([-6], [-6], [-34], [-34], [0], [-1007], [-22], [-2], [-28]),
     1: ([0], [-6], [-34], [-34], [-2], [-1007], [-22], [-2], [-28]),
     4294967295: ([-2], [-2], [-34], [-34], [-2], [-1007], [-22], [-2], [-28]),
 }
+BROKEN = ([-6], [1], [-34], [-34], [-6], [-1007], [-22], [-6], [-28])
 # Each call with what it answers: the function, what is handed in, the answer.
 CALLS = [(settle, given, answer) for given, answer in zip(INPUTS, SETTLED)]
 CALLS += [(why, (i, *given), answer) for i in DECIDED for given, answer in zip(INPUTS, DECIDED[i])]
+CALLS += [(never, given, answer) for given, answer in zip(INPUTS, BROKEN)]
 
 
 def refuse(*args):
@@ -75,6 +77,8 @@ class WhatIsHandedIn(unittest.TestCase):
         self.assertEqual(settle(t=told(*HOUSE), state=[1, 0, 0]), [2, 1, 3, 1])
         self.assertEqual(list(inspect.signature(why).parameters), ["i", "t", "state"])
         self.assertEqual(why(i=1, t=told(*HOUSE), state=[1, 0, 0]), [0])
+        self.assertEqual(list(inspect.signature(never).parameters), ["t", "state"])
+        self.assertEqual(never(t=told(*HOUSE), state=[1, 2, 0]), [1])
 
 
 class WhatComesBack(unittest.TestCase):
@@ -90,6 +94,7 @@ class WhatComesBack(unittest.TestCase):
             self.assertEqual(len(answer), 1 + len(state) if answer[0] >= 0 else 1)
             for i in DECIDED:
                 self.assertEqual(len(why(i, t, state)), 1)
+            self.assertEqual(len(never(t, state)), 1)
 
 
 class NothingIsKept(unittest.TestCase):
@@ -104,6 +109,9 @@ class NothingIsKept(unittest.TestCase):
         self.assertEqual(settle(told("out a 1"), [0]), [0, 0])
         why(0, told("out a 1", "out b 1", "rule a = 0 -> b = 1", "no"), [0, 0])
         self.assertEqual(why(1, told("out a 1"), [0]), [-2])
+        never(told("out a 1", "never a = 0", "no"), [0])
+        self.assertEqual(never(told("out a 1"), [0]), [-6])
+        self.assertEqual(never(told("out a 1", "never a = 0"), [0]), [0])
 
     def test_what_the_module_holds_stays(self):
         def held():
@@ -150,10 +158,10 @@ class NothingRunsDeep(unittest.TestCase):
         return depths[1]
 
     def depths(self, t, state):
-        return [self.depth(settle, t, state), self.depth(why, 0, t, state)]
+        return [self.depth(settle, t, state), self.depth(why, 0, t, state), self.depth(never, t, state)]
 
     def assert_no_deeper(self, t, state, more):
-        flat = self.depths(told("out a 1", "rule a = 0 -> a = 1"), [0])
+        flat = self.depths(told("out a 1", "rule a = 0 -> a = 1", "never a = 0"), [0])
         for found, most in zip(self.depths(t, state), flat):
             self.assertLessEqual(found, most + more)
 
@@ -162,9 +170,13 @@ class NothingRunsDeep(unittest.TestCase):
         self.assert_no_deeper(told("out a 1", "rule " + "not " * 20 + "a = 0 -> a = 1"), [0], 1)
         self.assert_no_deeper(told("out a 1", "rule " + "or a = 0 " * 9 + "a = 0 -> a = 1"), [0], 1)
         self.assert_no_deeper(told("out a 1", "rule " + "or " * 9 + "a = 0 " * 9 + "a = 0 -> a = 1"), [0], 1)
+        self.assert_no_deeper(told("out a 1", "never " + "not " * 22 + "a = 0"), [0], 1)
+        self.assert_no_deeper(told("out a 1", "never " + "or a = 0 " * 9 + "a = 0"), [0], 1)
+        self.assert_no_deeper(told("out a 1", "never " + "or " * 9 + "a = 0 " * 9 + "a = 0"), [0], 1)
 
     def test_longer_texts_need_no_deeper_calls(self):
         self.assert_no_deeper(told("out a 1", *["rule a = 0 -> a = 1"] * 16), [0], 0)
+        self.assert_no_deeper(told("out a 1", *["never a = 1"] * 16), [0], 0)
         self.assert_no_deeper([10] * 2000, [], 0)
 
 

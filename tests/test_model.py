@@ -4,7 +4,7 @@ import random
 import unittest
 from collections import Counter
 
-from houserulesdesk.passes import settle, why
+from houserulesdesk.passes import never, settle, why
 from tests import model
 
 WORDS = ["in", "out", "rule", "never", "and", "or", "not", "->", "=", "<", ">", "0", "1", "2", "3", "4", "a", "b", "c"]
@@ -72,6 +72,15 @@ class AgainstTheModel(unittest.TestCase):
         for kind in (-28, -6, -2, 0, 1, 2, 3, 4, 5, 6, 7):
             self.assertGreater(kinds[kind], 20, kind)
 
+    def test_never_in_sound_houses(self):
+        kinds = Counter()
+        for t, state in self.sound_houses(4000):
+            found = never(t, state)
+            self.assertEqual(found, model.never(t, state), (bytes(t), state))
+            kinds[found[0]] += 1
+        for kind in (-28, -6, 0, 1, 2, 3, 4, 5, 6, 7):
+            self.assertGreater(kinds[kind], 20, kind)
+
     def test_spoilt_houses(self):
         rng = random.Random(3)
         refused = 0
@@ -83,6 +92,7 @@ class AgainstTheModel(unittest.TestCase):
             self.assertEqual(found, model.settle(t, state), (bytes(t), state))
             i = rng.randrange(7)
             self.assertEqual(why(i, t, state), model.why(i, t, state), (i, bytes(t), state))
+            self.assertEqual(never(t, state), model.never(t, state), (bytes(t), state))
             refused += found[0] < -1000
         self.assertGreater(refused, 500)
 
@@ -96,6 +106,7 @@ class AgainstTheModel(unittest.TestCase):
             self.assertEqual(settle(t, state), model.settle(t, state), (bytes(t), state))
             i = rng.randrange(3)
             self.assertEqual(why(i, t, state), model.why(i, t, state), (i, bytes(t), state))
+            self.assertEqual(never(t, state), model.never(t, state), (bytes(t), state))
 
     def test_what_holds(self):
         for t, state in self.sound_houses(2000):

@@ -1,4 +1,4 @@
-"""Point 1: each refusal alone, and ahead of those that come behind it."""
+"""Point 1, by settle: each refusal alone, and ahead of those that come behind it."""
 
 import unittest
 

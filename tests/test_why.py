@@ -1,4 +1,4 @@
-"""Point 3: which rule decides a thing in a state, and what point 1 refuses ahead of it."""
+"""Point 3: which rule decides a thing in a state."""
 
 import unittest
 
@@ -6,7 +6,6 @@ from houserulesdesk.passes import settle, why
 from tests.helpers import bytes_of, decided, told
 
 LAMP = ["in dark 1", "out lamp 1", "rule dark = 1 -> lamp = 1", "rule dark = 0 -> lamp = 0"]
-TOO_MANY = ["out a 3", "in b 3", "in c 3", "in d 1", "rule a = 0 -> a = 1"]
 BEYOND = 4294967295
 
 
@@ -144,70 +143,6 @@ class NoThing(unittest.TestCase):
         lines = ["out a 1", "never a = 0", "rule a = 0 -> a = 1"]
         for i in (1, 2, BEYOND):
             self.assertEqual(decided(i, lines, [0]), [-2], i)
-
-
-class PointOneComesFirst(unittest.TestCase):
-    """Thing 0 is decided, or would be; no rule decides thing 1, or would; and there is no thing BEYOND."""
-
-    HOUSE = ["out a 1", "in b 1", "rule a < 1 -> a = 1"]
-
-    def assert_refused(self, t, state, refusal):
-        self.assertEqual([why(i, t, state) for i in (0, 1, 2, BEYOND)], [[refusal]] * 4)
-
-    def long_text(self, lines):
-        """1,200 bytes: each line padded to 99 and its end, bans in front of the end."""
-        return told(*[line.ljust(99) for line in lines + ["never a = 0"] * (12 - len(lines))])
-
-    def test_without_a_refusal(self):
-        t = told(*self.HOUSE)
-        self.assertEqual([why(i, t, [0, 0]) for i in (0, 1, 2, BEYOND)], [[0], [-6], [-2], [-2]])
-
-    def test_too_long(self):
-        t = self.long_text(self.HOUSE)
-        self.assertEqual([why(i, t, [0, 0]) for i in (0, 1, 2, BEYOND)], [[0], [-6], [-2], [-2]])
-        self.assert_refused(t + bytes_of("never a = 0"), [0, 0], -22)
-        self.assert_refused(t + [32], [0, 0], -22)
-
-    def test_too_long_ahead_of_the_others(self):
-        self.assert_refused([10] * 1200, [], -1001)
-        self.assert_refused([10] * 1201, [], -22)
-        self.assert_refused([255] * 2000, [255] * 20, -22)
-        self.assert_refused(self.long_text(TOO_MANY), [0] * 4, -28)
-        self.assert_refused(self.long_text(TOO_MANY) + bytes_of("never a = 0"), [0] * 4, -22)
-        self.assert_refused(self.long_text(self.HOUSE), [2, 0], -34)
-        self.assert_refused(self.long_text(self.HOUSE) + bytes_of("never a = 0"), [2, 0], -22)
-
-    def test_a_line_that_says_nothing(self):
-        self.assert_refused(told(*self.HOUSE, "no"), [0, 0], -1004)
-        self.assert_refused(told(*self.HOUSE, "", "no"), [0, 0], -1004)
-        self.assert_refused(told("rule a = 0 -> a = 1", *self.HOUSE), [0, 0], -1001)
-        self.assert_refused(told(*self.HOUSE, "rule a = 0 -> b = 1"), [0, 0], -1004)
-        self.assert_refused(told(*self.HOUSE, "rule a = 0 -> a = 2"), [0, 0], -1004)
-        self.assert_refused([10], [], -1001)
-
-    def test_a_line_that_says_nothing_ahead_of_the_others(self):
-        self.assert_refused(told(*TOO_MANY, "no"), [0] * 4, -1006)
-        self.assert_refused(told(*TOO_MANY, "no"), [9], -1006)
-        self.assert_refused(told(*self.HOUSE, "no"), [2, 0], -1004)
-        self.assert_refused(told(*self.HOUSE, "no"), [], -1004)
-
-    def test_too_many_states(self):
-        self.assert_refused(told(*TOO_MANY), [0] * 4, -28)
-        self.assert_refused(told("out a 2", "in b 2", "in c 1", "in d 1", "in e 1"), [0] * 5, -28)
-
-    def test_64_states(self):
-        lines = ["out a 3", "in b 3", "in c 3", "rule a = 3 -> a = 1"]
-        self.assertEqual([decided(i, lines, [3, 3, 3]) for i in range(4)], [[0], [-6], [-6], [-2]])
-
-    def test_too_many_states_ahead_of_no_state(self):
-        self.assert_refused(told(*TOO_MANY), [], -28)
-        self.assert_refused(told(*TOO_MANY), [4, 0, 0, 0], -28)
-        self.assert_refused(told(*TOO_MANY), [0] * 20, -28)
-
-    def test_no_state(self):
-        for state in ([], [0], [0, 0, 0], [0] * 20, [2, 0], [0, 2], [255, 255]):
-            self.assert_refused(told(*self.HOUSE), state, -34)
-        self.assert_refused([], [0], -34)
 
 
 if __name__ == "__main__":
